@@ -2,8 +2,11 @@ package tests
 
 import (
 	"go/ast"
+	"go/importer"
 	"go/parser"
 	"go/token"
+	"go/types"
+	"path/filepath"
 	"testing"
 )
 
@@ -45,5 +48,50 @@ func TestPartsArePutByVariadicFunctions(t *testing.T) {
 	})
 	if !found {
 		t.Error("PutTlv calls no variadic function")
+	}
+}
+
+// typesOf checks the program's types, so that a test can ask what is ranged over, compared or called.
+func typesOf(t *testing.T) (*token.FileSet, []*ast.File, *types.Info) {
+	t.Helper()
+	names, err := filepath.Glob("../impl/*.go")
+	if err != nil || len(names) == 0 {
+		t.Fatal("no files", err)
+	}
+	fset := token.NewFileSet()
+	var files []*ast.File
+	for _, name := range names {
+		f, err := parser.ParseFile(fset, name, nil, 0)
+		if err != nil {
+			t.Fatal(err)
+		}
+		files = append(files, f)
+	}
+	info := &types.Info{Types: map[ast.Expr]types.TypeAndValue{}}
+	config := types.Config{Importer: importer.ForCompiler(fset, "source", nil)}
+	if _, err := config.Check("impl", fset, files, info); err != nil {
+		t.Fatal(err)
+	}
+	return fset, files, info
+}
+
+// Ways, 2: numbers come out of an iterator.
+func TestNumbersOfNamesComeOutOfAnIterator(t *testing.T) {
+	fset, files, info := typesOf(t)
+	found := false
+	for _, f := range files {
+		if filepath.Base(fset.Position(f.Pos()).Filename) != "l02_oid.go" {
+			continue
+		}
+		ast.Inspect(f, func(n ast.Node) bool {
+			if loop, ok := n.(*ast.RangeStmt); ok {
+				_, isFunction := info.Types[loop.X].Type.Underlying().(*types.Signature)
+				found = found || isFunction
+			}
+			return true
+		})
+	}
+	if !found {
+		t.Error("l02_oid.go ranges over no function")
 	}
 }
