@@ -67,7 +67,7 @@ func typesOf(t *testing.T) (*token.FileSet, []*ast.File, *types.Info) {
 		}
 		files = append(files, f)
 	}
-	info := &types.Info{Types: map[ast.Expr]types.TypeAndValue{}}
+	info := &types.Info{Types: map[ast.Expr]types.TypeAndValue{}, Defs: map[*ast.Ident]types.Object{}}
 	config := types.Config{Importer: importer.ForCompiler(fset, "source", nil)}
 	if _, err := config.Check("impl", fset, files, info); err != nil {
 		t.Fatal(err)
@@ -93,5 +93,58 @@ func TestNumbersOfNamesComeOutOfAnIterator(t *testing.T) {
 	}
 	if !found {
 		t.Error("l02_oid.go ranges over no function")
+	}
+}
+
+// switchedOver finds what interface each type switch of a file asks.
+func switchedOver(f *ast.File, info *types.Info) []*types.Interface {
+	var all []*types.Interface
+	ast.Inspect(f, func(n ast.Node) bool {
+		choice, ok := n.(*ast.TypeSwitchStmt)
+		if !ok {
+			return true
+		}
+		ast.Inspect(choice.Assign, func(n ast.Node) bool {
+			if asked, ok := n.(*ast.TypeAssertExpr); ok {
+				if face, ok := info.Types[asked.X].Type.Underlying().(*types.Interface); ok {
+					all = append(all, face)
+				}
+			}
+			return true
+		})
+		return true
+	})
+	return all
+}
+
+// typesWith counts the types of a file that have a face, and are not one themselves.
+func typesWith(f *ast.File, info *types.Info, face *types.Interface) int {
+	count := 0
+	ast.Inspect(f, func(n ast.Node) bool {
+		if spec, ok := n.(*ast.TypeSpec); ok {
+			made := info.Defs[spec.Name].Type()
+			if !types.IsInterface(made) && types.Implements(made, face) {
+				count++
+			}
+		}
+		return true
+	})
+	return count
+}
+
+// Ways, 3: a value within is an interface with a type for each kind, told by a type switch.
+func TestValuesWithinAreToldByATypeSwitch(t *testing.T) {
+	fset, files, info := typesOf(t)
+	found := false
+	for _, f := range files {
+		if filepath.Base(fset.Position(f.Pos()).Filename) != "l03_val.go" {
+			continue
+		}
+		for _, face := range switchedOver(f, info) {
+			found = found || face.NumMethods() > 0 && typesWith(f, info, face) == len(valKinds)
+		}
+	}
+	if !found {
+		t.Error("l03_val.go has no type switch over an interface with a type for each kind")
 	}
 }
