@@ -7,6 +7,7 @@ import (
 	"go/token"
 	"go/types"
 	"path/filepath"
+	"slices"
 	"testing"
 )
 
@@ -146,5 +147,57 @@ func TestValuesWithinAreToldByATypeSwitch(t *testing.T) {
 	}
 	if !found {
 		t.Error("l03_val.go has no type switch over an interface with a type for each kind")
+	}
+}
+
+// calledIn names all that is called within a piece of the program.
+func calledIn(piece ast.Node) []string {
+	var names []string
+	ast.Inspect(piece, func(n ast.Node) bool {
+		if call, ok := n.(*ast.CallExpr); ok {
+			switch what := call.Fun.(type) {
+			case *ast.Ident:
+				names = append(names, what.Name)
+			case *ast.SelectorExpr:
+				names = append(names, what.Sel.Name)
+			}
+		}
+		return true
+	})
+	return names
+}
+
+// reaches tells whether a function calls what is named, itself or by others of its file.
+func reaches(all map[string]*ast.FuncDecl, from string, named string) bool {
+	seen := map[string]bool{}
+	for work := []string{from}; len(work) > 0; work = work[1:] {
+		name := work[0]
+		if name == named {
+			return true
+		}
+		if fn := all[name]; fn != nil && !seen[name] {
+			seen[name] = true
+			work = append(work, calledIn(fn)...)
+		}
+	}
+	return false
+}
+
+// Ways, 4: what cannot be read gives up by a panic, which a deferred recover at the face catches.
+func TestRequestsThatCannotBeReadGiveUpByAPanic(t *testing.T) {
+	all := functionsOf(t, "l04_pdu.go")
+	caught := false
+	ast.Inspect(all["GetPdu"], func(n ast.Node) bool {
+		if last, ok := n.(*ast.DeferStmt); ok {
+			literal, isLiteral := last.Call.Fun.(*ast.FuncLit)
+			caught = caught || isLiteral && slices.Contains(calledIn(literal), "recover")
+		}
+		return true
+	})
+	if !caught {
+		t.Error("GetPdu defers no recover")
+	}
+	if !reaches(all, "GetPdu", "panic") {
+		t.Error("GetPdu reaches no panic")
 	}
 }
