@@ -201,3 +201,43 @@ func TestRequestsThatCannotBeReadGiveUpByAPanic(t *testing.T) {
 		t.Error("GetPdu reaches no panic")
 	}
 }
+
+// askedForByAs finds what types a file's calls of errors.As ask for.
+func askedForByAs(f *ast.File, info *types.Info) []types.Type {
+	var all []types.Type
+	ast.Inspect(f, func(n ast.Node) bool {
+		call, ok := n.(*ast.CallExpr)
+		if !ok || types.ExprString(call.Fun) != "errors.As" || len(call.Args) != 2 {
+			return true
+		}
+		if room, ok := info.Types[call.Args[1]].Type.(*types.Pointer); ok {
+			all = append(all, room.Elem())
+		}
+		return true
+	})
+	return all
+}
+
+// Ways, 5: what is wrong is an error of a type of its own, asked for by errors.As.
+func TestWrongMessagesAreErrorsOfATypeOfTheirOwn(t *testing.T) {
+	if !reaches(functionsOf(t, "l05_msg.go"), "GetMsg", "As") {
+		t.Error("GetMsg does not ask by errors.As")
+	}
+	fset, files, info := typesOf(t)
+	face := types.Universe.Lookup("error").Type().Underlying().(*types.Interface)
+	found := false
+	for _, f := range files {
+		if filepath.Base(fset.Position(f.Pos()).Filename) != "l05_msg.go" {
+			continue
+		}
+		for _, asked := range askedForByAs(f, info) {
+			found = found || !types.IsInterface(asked) && types.Implements(asked, face)
+		}
+		if typesWith(f, info, face) == 0 {
+			t.Error("l05_msg.go has no error of a type of its own")
+		}
+	}
+	if !found {
+		t.Error("l05_msg.go asks for no error of a type of its own by errors.As")
+	}
+}
