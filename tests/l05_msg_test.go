@@ -140,12 +140,58 @@ func TestWordsOfOneByteTooMany(t *testing.T) {
 		for _, size := range []int{21, 22, 127, 128, 250, 251, 256, 276, 100000} {
 			noPutMsg(t, strings.Repeat("w", size), p)
 		}
-		// A text has at most MaxText bytes (chapter 3): with one more it is none, even if it is what is asked for.
-		for _, size := range []int{21, 22, 128, 200} {
-			long := strings.Repeat("w", size)
-			noMsg(t, long, wantMsg(long, p), 1)
-			noMsg(t, "yard", wantMsg(long, p), 1)
+	}
+}
+
+func TestLongerTextsThanAnyWordThatIsPut(t *testing.T) {
+	// No length makes a part of 4 another thing than a text: it is the word that is asked for, or it is not.
+	for _, size := range []int{21, 22, 48, 127, 128, 129, 200} {
+		long := strings.Repeat("w", size)
+		part := wantPart(4, []byte(long))
+		for _, kind := range pduKinds {
+			p := impl.Pdu{Kind: kind, Id: 2, Binds: nullBinds(1)}
+			noPutMsg(t, long, p)
+			b := wantMsg(long, p)
+			if back, code := impl.GetMsg(long, b); code != 0 || !samePdu(back, p) {
+				t.Errorf("GetMsg(%q, %x) = %#v, %d; want %#v, 0", long, b, back, code, p)
+			}
+			for _, asked := range []string{"", "yard", long[1:], long + "w", long[1:] + "x", long[:20]} {
+				noMsg(t, asked, b, 3)
+				noMsg(t, asked, msgOf(number(0), part, wantPdu(p)), 2)
+			}
+			noMsg(t, long, msgOf(number(2), part, wantPdu(p)), 2)
 			noMsg(t, long, wantMsg("yard", p), 3)
+		}
+		noMsg(t, long, msgOf(onePart, part), 1)
+		noMsg(t, "yard", msgOf(onePart, part), 3)
+		noMsg(t, "yard", msgOf(number(0), part), 2)
+		// It is not there whole, it is not the second part, or the number is none.
+		for _, asked := range []string{long, "yard"} {
+			noMsg(t, asked, msgOf(onePart, part[:len(part)-1]), 1)
+			noMsg(t, asked, msgOf(part, onePart), 1)
+			noMsg(t, asked, msgOf([]byte("\x02\x00"), part), 1)
+			noMsg(t, asked, append(msgOf(onePart, part), 0), 1)
+		}
+	}
+	// The most that the outer part has room for, with and without one more byte of it.
+	widest := strings.Repeat("w", 244)
+	noMsg(t, widest, msgOf(onePart, wantPart(4, []byte(widest))), 1)
+	noMsg(t, "yard", msgOf(onePart, wantPart(4, []byte(widest))), 3)
+	noMsg(t, "yard", msgOf(number(2), wantPart(4, []byte(widest))), 2)
+	noMsg(t, "yard", msgOf(onePart, wantPart(4, []byte(widest+"w"))), 1)
+}
+
+func TestTextThatTakesInTheRequest(t *testing.T) {
+	// A text whose length is turned so that it goes on into the request is whole, and another one.
+	for size := range 256 {
+		b := msgOf(onePart, yardPart, askPart)
+		b[6] = byte(size)
+		want := 3
+		if size > len(yardPart)-2+len(askPart) {
+			want = 1
+		}
+		if size != 4 {
+			noMsg(t, "yard", b, want)
 		}
 	}
 }
@@ -436,6 +482,8 @@ func msgWrongs() []msgWrong {
 		{"word", 2, func(f *msgForm) { f.word = []byte("\x04\x03yar") }},
 		{"word", 2, func(f *msgForm) { f.word = []byte("\x04\x05yards") }},
 		{"word", 2, func(f *msgForm) { f.word = []byte("\x04\x00") }},
+		{"word", 2, func(f *msgForm) { f.word = wantPart(4, []byte(twentyBytes+"y")) }},
+		{"word", 2, func(f *msgForm) { f.word = wantPart(4, []byte(strings.Repeat("yard", 40))) }},
 		{"asked", 2, func(f *msgForm) { f.asked = "gate" }},
 		{"asked", 2, func(f *msgForm) { f.asked = "yard\x00" }},
 		{"asked", 2, func(f *msgForm) { f.asked = twentyBytes + "x" }},
@@ -481,7 +529,7 @@ func codeOf(word string, b []byte) int {
 	secondTag, second, behind, secondOk := impl.GetTlv(body, at)
 	version, versionOk := impl.GetInt(first)
 	_, requestOk := impl.GetPdu(body[behind:])
-	isText := secondOk && secondTag == 4 && len(second) <= 20
+	isText := secondOk && secondTag == 4
 	switch {
 	case !ok || tag != 48 || end != len(b) || !firstOk || firstTag != 2 || !versionOk || !isText:
 		return 1
