@@ -241,3 +241,27 @@ func TestWrongMessagesAreErrorsOfATypeOfTheirOwn(t *testing.T) {
 		t.Error("l05_msg.go asks for no error of a type of its own by errors.As")
 	}
 }
+
+// cutsByThreeIndexes tells whether a function has a slice expression with three indexes.
+func cutsByThreeIndexes(fn *ast.FuncDecl) bool {
+	found := false
+	ast.Inspect(fn, func(n ast.Node) bool {
+		if cut, ok := n.(*ast.SliceExpr); ok {
+			found = found || cut.Slice3
+		}
+		return true
+	})
+	return found
+}
+
+// Ways, 6: a frame's bytes are cut by three indexes.
+func TestBytesOfFramesAreCutByThreeIndexes(t *testing.T) {
+	all := functionsOf(t, "l06_frame.go")
+	found := false
+	for name, fn := range all {
+		found = found || cutsByThreeIndexes(fn) && reaches(all, "GetFrame", name)
+	}
+	if !found {
+		t.Error("GetFrame cuts nothing by three indexes")
+	}
+}
