@@ -265,3 +265,62 @@ func TestBytesOfFramesAreCutByThreeIndexes(t *testing.T) {
 		t.Error("GetFrame cuts nothing by three indexes")
 	}
 }
+
+// isNamed tells whether a type is the one that the program gives this name.
+func isNamed(what types.Type, name string) bool {
+	named, ok := what.(*types.Named)
+	return ok && named.Obj().Name() == name
+}
+
+// comparesWhole tells whether a function holds two values of the named type against each other.
+func comparesWhole(fn *ast.FuncDecl, info *types.Info, name string) bool {
+	found := false
+	ast.Inspect(fn, func(n ast.Node) bool {
+		if two, ok := n.(*ast.BinaryExpr); ok && (two.Op == token.EQL || two.Op == token.NEQ) {
+			found = found || isNamed(info.Types[two.X].Type, name)
+		}
+		return true
+	})
+	return found
+}
+
+// holdsInArray tells whether a function has an array of the named type.
+func holdsInArray(fn *ast.FuncDecl, info *types.Info, name string) bool {
+	found := false
+	ast.Inspect(fn, func(n ast.Node) bool {
+		if row, ok := n.(*ast.ArrayType); ok && row.Len != nil {
+			found = found || isNamed(info.Types[row.Elt].Type, name)
+		}
+		return true
+	})
+	return found
+}
+
+// Ways, 7: vectors are compared as structs, held in an array.
+func TestVectorsAreComparedAsStructs(t *testing.T) {
+	fset, files, info := typesOf(t)
+	all := map[string]*ast.FuncDecl{}
+	for _, f := range files {
+		if filepath.Base(fset.Position(f.Pos()).Filename) != "l07_vec.go" {
+			continue
+		}
+		for _, d := range f.Decls {
+			if fn, ok := d.(*ast.FuncDecl); ok {
+				all[fn.Name.Name] = fn
+			}
+		}
+	}
+	compared, held := false, false
+	for name, fn := range all {
+		if reaches(all, "VecOk", name) {
+			compared = compared || comparesWhole(fn, info, "Vec")
+			held = held || holdsInArray(fn, info, "Vec")
+		}
+	}
+	if !compared {
+		t.Error("VecOk compares no vectors as structs")
+	}
+	if !held {
+		t.Error("VecOk holds no vectors in an array")
+	}
+}
