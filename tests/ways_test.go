@@ -296,12 +296,11 @@ func holdsInArray(fn *ast.FuncDecl, info *types.Info, name string) bool {
 	return found
 }
 
-// Ways, 7: vectors are compared as structs, held in an array.
-func TestVectorsAreComparedAsStructs(t *testing.T) {
-	fset, files, info := typesOf(t)
+// functionsIn are the functions of one file among those whose types were checked.
+func functionsIn(fset *token.FileSet, files []*ast.File, file string) map[string]*ast.FuncDecl {
 	all := map[string]*ast.FuncDecl{}
 	for _, f := range files {
-		if filepath.Base(fset.Position(f.Pos()).Filename) != "l07_vec.go" {
+		if filepath.Base(fset.Position(f.Pos()).Filename) != file {
 			continue
 		}
 		for _, d := range f.Decls {
@@ -310,6 +309,13 @@ func TestVectorsAreComparedAsStructs(t *testing.T) {
 			}
 		}
 	}
+	return all
+}
+
+// Ways, 7: vectors are compared as structs, held in an array.
+func TestVectorsAreComparedAsStructs(t *testing.T) {
+	fset, files, info := typesOf(t)
+	all := functionsIn(fset, files, "l07_vec.go")
 	compared, held := false, false
 	for name, fn := range all {
 		if reaches(all, "VecOk", name) {
@@ -322,5 +328,35 @@ func TestVectorsAreComparedAsStructs(t *testing.T) {
 	}
 	if !held {
 		t.Error("VecOk holds no vectors in an array")
+	}
+}
+
+// deletesByStruct tells whether a function deletes entries of the named type from a map whose keys are structs.
+func deletesByStruct(fn *ast.FuncDecl, info *types.Info, name string) bool {
+	found := false
+	ast.Inspect(fn, func(n ast.Node) bool {
+		call, ok := n.(*ast.CallExpr)
+		if !ok || types.ExprString(call.Fun) != "delete" {
+			return true
+		}
+		if from, ok := info.Types[call.Args[0]].Type.Underlying().(*types.Map); ok {
+			_, byStruct := from.Key().Underlying().(*types.Struct)
+			found = found || byStruct && isNamed(from.Elem(), name)
+		}
+		return true
+	})
+	return found
+}
+
+// Ways, 8: entries stand in a map by a struct, from which those that are old are deleted.
+func TestOldEntriesAreDeletedFromAMap(t *testing.T) {
+	fset, files, info := typesOf(t)
+	all := functionsIn(fset, files, "l08_fdb.go")
+	found := false
+	for name, fn := range all {
+		found = found || deletesByStruct(fn, info, "Fent") && reaches(all, "AgeAll", name)
+	}
+	if !found {
+		t.Error("AgeAll deletes no entries from a map by a struct")
 	}
 }
