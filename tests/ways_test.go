@@ -360,3 +360,45 @@ func TestOldEntriesAreDeletedFromAMap(t *testing.T) {
 		t.Error("AgeAll deletes no entries from a map by a struct")
 	}
 }
+
+// isGenericOver tells whether a type is a generic one, in the form that it has for the named type.
+func isGenericOver(what types.Type, name string) bool {
+	if to, ok := what.(*types.Pointer); ok {
+		what = to.Elem()
+	}
+	named, ok := what.(*types.Named)
+	if !ok {
+		return false
+	}
+	for i := range named.TypeArgs().Len() {
+		if isNamed(named.TypeArgs().At(i), name) {
+			return named.Obj().Pkg() != nil && named.Obj().Pkg().Name() == "impl"
+		}
+	}
+	return false
+}
+
+// callsOnGeneric tells whether a function calls a method of a generic type of the program's own over the named type.
+func callsOnGeneric(fn *ast.FuncDecl, info *types.Info, name string) bool {
+	found := false
+	ast.Inspect(fn, func(n ast.Node) bool {
+		if call, ok := n.(*ast.CallExpr); ok {
+			if method, ok := call.Fun.(*ast.SelectorExpr); ok {
+				found = found || isGenericOver(info.Types[method.X].Type, name)
+			}
+		}
+		return true
+	})
+	return found
+}
+
+// Ways, 9: rows are a generic type in order.
+func TestRowsAreAGenericType(t *testing.T) {
+	fset, files, info := typesOf(t)
+	all := functionsIn(fset, files, "l09_vlan.go")
+	for _, name := range []string{"VtabOk", "RowAt", "PutRow", "DropRow"} {
+		if !callsOnGeneric(all[name], info, "Vrow") {
+			t.Errorf("%s asks nothing of rows of a generic type", name)
+		}
+	}
+}
