@@ -402,3 +402,64 @@ func TestRowsAreAGenericType(t *testing.T) {
 		}
 	}
 }
+
+// rowOfConstants finds the group of constants in which the named one stands.
+func rowOfConstants(f *ast.File, named string) []*ast.ValueSpec {
+	for _, d := range f.Decls {
+		group, ok := d.(*ast.GenDecl)
+		if !ok || group.Tok != token.CONST {
+			continue
+		}
+		var row []*ast.ValueSpec
+		found := false
+		for _, s := range group.Specs {
+			spec := s.(*ast.ValueSpec)
+			row = append(row, spec)
+			found = found || spec.Names[0].Name == named
+		}
+		if found {
+			return row
+		}
+	}
+	return nil
+}
+
+// names tells whether a piece of the program has this name in it.
+func names(piece ast.Node, name string) bool {
+	found := false
+	ast.Inspect(piece, func(n ast.Node) bool {
+		if id, ok := n.(*ast.Ident); ok {
+			found = found || id.Name == name
+		}
+		return true
+	})
+	return found
+}
+
+// Ways, 10: what a port is for is a constant with iota.
+func TestWhatAPortIsForIsAConstantWithIota(t *testing.T) {
+	fset, files, _ := typesOf(t)
+	roles := []string{"RoRoot", "RoTold", "RoIdle", "RoDown"}
+	for _, f := range files {
+		if filepath.Base(fset.Position(f.Pos()).Filename) != "l10_role.go" {
+			continue
+		}
+		row := rowOfConstants(f, roles[0])
+		if len(row) != len(roles) {
+			t.Fatalf("%d constants stand with %s", len(row), roles[0])
+		}
+		for i, spec := range row {
+			if spec.Names[0].Name != roles[i] || (len(spec.Values) > 0) != (i == 0) {
+				t.Errorf("%s stands as the constant %d, with %d values of its own", spec.Names[0].Name, i, len(spec.Values))
+			}
+		}
+		if !names(row[0], "iota") {
+			t.Error("RoRoot is told without iota")
+		}
+	}
+	for _, role := range roles {
+		if !names(functionsOf(t, "l10_role.go")["RoleOf"], role) {
+			t.Errorf("RoleOf does not name %s", role)
+		}
+	}
+}
