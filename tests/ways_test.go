@@ -68,7 +68,7 @@ func typesOf(t *testing.T) (*token.FileSet, []*ast.File, *types.Info) {
 		}
 		files = append(files, f)
 	}
-	info := &types.Info{Types: map[ast.Expr]types.TypeAndValue{}, Defs: map[*ast.Ident]types.Object{}}
+	info := &types.Info{Types: map[ast.Expr]types.TypeAndValue{}, Defs: map[*ast.Ident]types.Object{}, Selections: map[*ast.SelectorExpr]*types.Selection{}}
 	config := types.Config{Importer: importer.ForCompiler(fset, "source", nil)}
 	if _, err := config.Check("impl", fset, files, info); err != nil {
 		t.Fatal(err)
@@ -461,5 +461,49 @@ func TestWhatAPortIsForIsAConstantWithIota(t *testing.T) {
 		if !names(functionsOf(t, "l10_role.go")["RoleOf"], role) {
 			t.Errorf("RoleOf does not name %s", role)
 		}
+	}
+}
+
+// isRowOf tells whether a type is a list of the named type.
+func isRowOf(what types.Type, name string) bool {
+	row, ok := what.Underlying().(*types.Slice)
+	return ok && isNamed(row.Elem(), name)
+}
+
+// callsPromoted tells whether a function calls a method that a list of the named type, embedded in what has it, promotes.
+func callsPromoted(fn *ast.FuncDecl, info *types.Info, name string) bool {
+	found := false
+	ast.Inspect(fn, func(n ast.Node) bool {
+		call, ok := n.(*ast.CallExpr)
+		if !ok {
+			return true
+		}
+		method, ok := call.Fun.(*ast.SelectorExpr)
+		if !ok {
+			return true
+		}
+		if chosen := info.Selections[method]; chosen != nil && chosen.Kind() == types.MethodVal && len(chosen.Index()) > 1 {
+			found = found || isRowOf(chosen.Obj().(*types.Func).Signature().Recv().Type(), name)
+		}
+		return true
+	})
+	return found
+}
+
+// Ways, 11: a bridge embeds its ports, whose methods are promoted.
+func TestABridgeEmbedsItsPorts(t *testing.T) {
+	fset, files, info := typesOf(t)
+	all := functionsIn(fset, files, "l11_bridge.go")
+	for _, name := range []string{"HearVec", "LinkSet"} {
+		if !callsPromoted(all[name], info, "Pt") {
+			t.Errorf("%s calls no method that embedded ports promote", name)
+		}
+	}
+	found := false
+	for name, fn := range all {
+		found = found || callsPromoted(fn, info, "Pt") && reaches(all, "Tick", name)
+	}
+	if !found {
+		t.Error("Tick reaches no method that embedded ports promote")
 	}
 }
