@@ -507,3 +507,29 @@ func TestABridgeEmbedsItsPorts(t *testing.T) {
 		t.Error("Tick reaches no method that embedded ports promote")
 	}
 }
+
+// rangesOverInteger tells whether a function has a loop over an integer.
+func rangesOverInteger(fn *ast.FuncDecl, info *types.Info) bool {
+	found := false
+	ast.Inspect(fn, func(n ast.Node) bool {
+		if loop, ok := n.(*ast.RangeStmt); ok {
+			count, isBasic := info.Types[loop.X].Type.Underlying().(*types.Basic)
+			found = found || isBasic && count.Info()&types.IsInteger != 0
+		}
+		return true
+	})
+	return found
+}
+
+// Ways, 12: where it goes is a range over an integer.
+func TestWhereAFrameGoesIsARangeOverAnInteger(t *testing.T) {
+	fset, files, info := typesOf(t)
+	all := functionsIn(fset, files, "l12_forward.go")
+	found := false
+	for name, fn := range all {
+		found = found || rangesOverInteger(fn, info) && reaches(all, "Forward", name)
+	}
+	if !found {
+		t.Error("Forward ranges over no integer")
+	}
+}
