@@ -533,3 +533,29 @@ func TestWhereAFrameGoesIsARangeOverAnInteger(t *testing.T) {
 		t.Error("Forward ranges over no integer")
 	}
 }
+
+// answersPointerTo tells whether a function answers a pointer to the named type.
+func answersPointerTo(fn *ast.FuncDecl, info *types.Info, name string) bool {
+	results := info.Defs[fn.Name].(*types.Func).Signature().Results()
+	for i := range results.Len() {
+		if p, ok := results.At(i).Type().(*types.Pointer); ok && isNamed(p.Elem(), name) {
+			return true
+		}
+	}
+	return false
+}
+
+// Ways, 13: bridges are reached by pointers.
+func TestBridgesAreReachedByPointers(t *testing.T) {
+	fset, files, info := typesOf(t)
+	all := functionsIn(fset, files, "l13_net.go")
+	for _, from := range []string{"NetNew", "NetOk", "LinkUp"} {
+		found := false
+		for name, fn := range all {
+			found = found || answersPointerTo(fn, info, "Bridge") && reaches(all, from, name)
+		}
+		if !found {
+			t.Errorf("%s reaches no bridge by a pointer", from)
+		}
+	}
+}
