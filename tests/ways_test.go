@@ -559,3 +559,42 @@ func TestBridgesAreReachedByPointers(t *testing.T) {
 		}
 	}
 }
+
+// tabledMethods names the methods of which a function has a method expression in a table.
+func tabledMethods(fn *ast.FuncDecl, info *types.Info) map[string]int {
+	all := map[string]int{}
+	ast.Inspect(fn, func(n ast.Node) bool {
+		table, ok := n.(*ast.CompositeLit)
+		if !ok {
+			return true
+		}
+		if _, isArray := info.Types[table].Type.Underlying().(*types.Array); !isArray {
+			return true
+		}
+		ast.Inspect(table, func(n ast.Node) bool {
+			if what, ok := n.(*ast.SelectorExpr); ok {
+				if chosen := info.Selections[what]; chosen != nil && chosen.Kind() == types.MethodExpr {
+					all[chosen.Obj().Name()]++
+				}
+			}
+			return true
+		})
+		return false
+	})
+	return all
+}
+
+// Ways, 14: what a kind does is a method expression in a table.
+func TestWhatAKindDoesIsAMethodExpressionInATable(t *testing.T) {
+	fset, files, info := typesOf(t)
+	all := functionsIn(fset, files, "l14_step.go")
+	most := 0
+	for name, fn := range all {
+		if reaches(all, "Step", name) {
+			most = max(most, len(tabledMethods(fn, info)))
+		}
+	}
+	if most < len(allKinds()) {
+		t.Errorf("Step reaches no table with a method expression for each kind (%d)", most)
+	}
+}
