@@ -598,3 +598,41 @@ func TestWhatAKindDoesIsAMethodExpressionInATable(t *testing.T) {
 		t.Errorf("Step reaches no table with a method expression for each kind (%d)", most)
 	}
 }
+
+// storesByNumber tells whether a function stores into a map whose keys are integers.
+func storesByNumber(fn *ast.FuncDecl, info *types.Info) bool {
+	found := false
+	ast.Inspect(fn, func(n ast.Node) bool {
+		set, ok := n.(*ast.AssignStmt)
+		if !ok {
+			return true
+		}
+		for _, to := range set.Lhs {
+			at, ok := to.(*ast.IndexExpr)
+			if !ok {
+				continue
+			}
+			if what, ok := info.Types[at.X].Type.Underlying().(*types.Map); ok {
+				key, isBasic := what.Key().Underlying().(*types.Basic)
+				found = found || isBasic && key.Info()&types.IsInteger != 0
+			}
+		}
+		return true
+	})
+	return found
+}
+
+// Ways, 15: what is reached stands in a map by a number.
+func TestWhatIsReachedStandsInAMapByANumber(t *testing.T) {
+	fset, files, info := typesOf(t)
+	all := functionsIn(fset, files, "l15_agree.go")
+	for _, from := range []string{"Joined", "Loops"} {
+		found := false
+		for name, fn := range all {
+			found = found || storesByNumber(fn, info) && reaches(all, from, name)
+		}
+		if !found {
+			t.Errorf("%s stores nothing in a map by a number", from)
+		}
+	}
+}
