@@ -815,8 +815,8 @@ func TestAskedWhetherWrongNetsAgree(t *testing.T) {
 	}
 }
 
-// hasHappened lets so many events happen to n by a fixed rule, and wants what follows of any of them that agree.
-func hasHappened(t *testing.T, n impl.Net, count int, next func(count int) int) impl.Net {
+// hasHappened lets so many events happen to n by a fixed rule, and wants what follows whenever they agree.
+func hasHappened(t *testing.T, n impl.Net, count int, next func(count int) int, follows func(t *testing.T, n impl.Net)) impl.Net {
 	t.Helper()
 	for range count {
 		kind := next(7)
@@ -825,7 +825,7 @@ func hasHappened(t *testing.T, n impl.Net, count int, next func(count int) int) 
 		}
 		n, _ = impl.Step(n, impl.Event{Kind: kind, At: next(howMany(n, kind) + 1)})
 		if impl.Agreed(n) {
-			isTree(t, n)
+			follows(t, n)
 		}
 	}
 	return n
@@ -840,7 +840,7 @@ func TestWhateverHappensTheyAgree(t *testing.T) {
 	}
 	late, apart, spare, kept := 0, 0, 0, 0
 	for range 250 {
-		n := hasHappened(t, drawnNet(next), 20+next(60), next)
+		n := hasHappened(t, drawnNet(next), 20+next(60), next, isTree)
 		var l []int
 		for range next(8) {
 			l = append(l, next(len(n.Links)+2)-1)

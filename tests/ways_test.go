@@ -636,3 +636,29 @@ func TestWhatIsReachedStandsInAMapByANumber(t *testing.T) {
 		}
 	}
 }
+
+// leavesByLabel counts what a function leaves, or goes on with, by a label.
+func leavesByLabel(fn *ast.FuncDecl) int {
+	count := 0
+	ast.Inspect(fn, func(n ast.Node) bool {
+		if leave, ok := n.(*ast.BranchStmt); ok && leave.Label != nil && (leave.Tok == token.BREAK || leave.Tok == token.CONTINUE) {
+			count++
+		}
+		return true
+	})
+	return count
+}
+
+// Ways, 16: the way is left by its label.
+func TestTheWayIsLeftByItsLabel(t *testing.T) {
+	all := functionsOf(t, "l16_true.go")
+	count := 0
+	for name, fn := range all {
+		if reaches(all, "DistTrue", name) {
+			count += leavesByLabel(fn)
+		}
+	}
+	if count == 0 {
+		t.Error("DistTrue leaves no way by its label")
+	}
+}
