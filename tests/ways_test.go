@@ -662,3 +662,47 @@ func TestTheWayIsLeftByItsLabel(t *testing.T) {
 		t.Error("DistTrue leaves no way by its label")
 	}
 }
+
+// hasNumberList tells whether a field of a struct is a list of numbers, as a name is.
+func hasNumberList(what *types.Struct) bool {
+	for i := range what.NumFields() {
+		if list, ok := what.Field(i).Type().Underlying().(*types.Slice); ok && types.Identical(list.Elem(), types.Typ[types.Int]) {
+			return true
+		}
+	}
+	return false
+}
+
+// callsNamedField tells whether a function calls a function field of a struct that has a name, too.
+func callsNamedField(fn *ast.FuncDecl, info *types.Info) bool {
+	found := false
+	ast.Inspect(fn, func(n ast.Node) bool {
+		call, ok := n.(*ast.CallExpr)
+		if !ok {
+			return true
+		}
+		if what, ok := call.Fun.(*ast.SelectorExpr); ok {
+			if chosen := info.Selections[what]; chosen != nil && chosen.Kind() == types.FieldVal {
+				of, isStruct := chosen.Recv().Underlying().(*types.Struct)
+				found = found || isStruct && hasNumberList(of)
+			}
+		}
+		return true
+	})
+	return found
+}
+
+// Ways, 17: each thing is a function field with its name.
+func TestEachThingIsAFunctionFieldWithItsName(t *testing.T) {
+	fset, files, info := typesOf(t)
+	all := functionsIn(fset, files, "l17_mib.go")
+	for _, from := range []string{"MibList", "MibGet", "MibNext"} {
+		found := false
+		for name, fn := range all {
+			found = found || callsNamedField(fn, info) && reaches(all, from, name)
+		}
+		if !found {
+			t.Errorf("%s calls no function field that stands with a name", from)
+		}
+	}
+}
