@@ -706,3 +706,59 @@ func TestEachThingIsAFunctionFieldWithItsName(t *testing.T) {
 		}
 	}
 }
+
+// isFunctionWithoutArguments tells whether a type is one of functions that are only to be called.
+func isFunctionWithoutArguments(what types.Type) bool {
+	fn, ok := what.Underlying().(*types.Signature)
+	return ok && fn.Params().Len() == 0 && fn.Results().Len() == 0
+}
+
+// listsFunctions tells whether a function appends to a list of functions that are only to be called.
+func listsFunctions(fn *ast.FuncDecl, info *types.Info) bool {
+	found := false
+	ast.Inspect(fn, func(n ast.Node) bool {
+		if call, ok := n.(*ast.CallExpr); ok && types.ExprString(call.Fun) == "append" {
+			list, isList := info.Types[call].Type.Underlying().(*types.Slice)
+			found = found || isList && isFunctionWithoutArguments(list.Elem())
+		}
+		return true
+	})
+	return found
+}
+
+// closesOver tells whether a function makes a closure that is only to be called, and in which something is set.
+func closesOver(fn *ast.FuncDecl, info *types.Info) bool {
+	found := false
+	ast.Inspect(fn, func(n ast.Node) bool {
+		literal, ok := n.(*ast.FuncLit)
+		if !ok || !isFunctionWithoutArguments(info.Types[literal].Type) {
+			return true
+		}
+		ast.Inspect(literal, func(n ast.Node) bool {
+			_, sets := n.(*ast.AssignStmt)
+			found = found || sets
+			return true
+		})
+		return true
+	})
+	return found
+}
+
+// Ways, 18: what is undone is a list of closures.
+func TestWhatIsUndoneIsAListOfClosures(t *testing.T) {
+	fset, files, info := typesOf(t)
+	all := functionsIn(fset, files, "l18_set.go")
+	listed, made := false, false
+	for name, fn := range all {
+		if reaches(all, "SetAll", name) {
+			listed = listed || listsFunctions(fn, info)
+			made = made || closesOver(fn, info)
+		}
+	}
+	if !listed {
+		t.Error("SetAll lists no functions that are only to be called")
+	}
+	if !made {
+		t.Error("SetAll makes no closure that sets something back")
+	}
+}
