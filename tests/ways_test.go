@@ -762,3 +762,45 @@ func TestWhatIsUndoneIsAListOfClosures(t *testing.T) {
 		t.Error("SetAll makes no closure that sets something back")
 	}
 }
+
+// fallsThrough tells whether a function has a case of one name that falls through to the one of another.
+func fallsThrough(fn *ast.FuncDecl, from string, to string) bool {
+	found := false
+	ast.Inspect(fn, func(n ast.Node) bool {
+		choice, ok := n.(*ast.SwitchStmt)
+		if !ok {
+			return true
+		}
+		for at, clause := range choice.Body.List[:max(len(choice.Body.List), 1)-1] {
+			ahead, behind := clause.(*ast.CaseClause), choice.Body.List[at+1].(*ast.CaseClause)
+			found = found || isCaseOf(ahead, from) && endsInFallthrough(ahead) && isCaseOf(behind, to)
+		}
+		return true
+	})
+	return found
+}
+
+func isCaseOf(clause *ast.CaseClause, name string) bool {
+	return len(clause.List) == 1 && types.ExprString(clause.List[0]) == name
+}
+
+func endsInFallthrough(clause *ast.CaseClause) bool {
+	if len(clause.Body) == 0 {
+		return false
+	}
+	last, ok := clause.Body[len(clause.Body)-1].(*ast.BranchStmt)
+	return ok && last.Tok == token.FALLTHROUGH
+}
+
+// Ways, 19: many falls through to next.
+func TestManyFallsThroughToNext(t *testing.T) {
+	fset, files, _ := typesOf(t)
+	all := functionsIn(fset, files, "l19_reply.go")
+	found := false
+	for name, fn := range all {
+		found = found || fallsThrough(fn, "RqBulk", "RqNext") && reaches(all, "ReplyOf", name)
+	}
+	if !found {
+		t.Error("ReplyOf reaches no case of RqBulk that falls through to the one of RqNext")
+	}
+}
